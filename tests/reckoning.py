@@ -1,0 +1,122 @@
+"""What the tests share: plain reckonings cell by cell, sample values, and checks of calls."""
+
+import copy
+from itertools import product
+
+from cellflows import errors
+
+ROAD = (2, -1, 3, [0, 0, 0, 1, 1, 1, 0, 1])
+SHIFT = (2, 1, 1, [0, 1])
+SPREAD = (2, 0, 2, [0, 1, 1, 1])
+ONES = (2, 1, [0, 1])
+RISES = (2, 2, [0, 1, 0, 0])
+
+LONGEST = {2: 10, 3: 6, 4: 5}
+
+NOT_INTEGERS = (None, True, False, "1", "", b"1", [], [1], (), (1,), {}, {1: 1}, set(), object(), int)
+
+ODD_VALUES = (
+    None, True, False, 0, 1, 2, -1, 10 ** 40, "", "0", "2 0 01", b"01", (), {}, {0: 1}, set(), frozenset([1]),
+    object(), int, ((), []), (2,), [None], [[]], [[[[]]]], (2, (2, (2, ()))),
+)
+
+
+class Numbers:
+    """A row of numbers that look as if drawn by lot, and are the same in each run."""
+
+    def __init__(self, seed):
+        self.state = seed
+
+    def below(self, many):
+        self.state = (self.state * 6364136223846793005 + 1442695040888963407) % 2 ** 64
+        return (self.state >> 33) % many
+
+    def signs(self, signs, many):
+        return [self.below(signs) for _ in range(many)]
+
+
+def words(signs, length):
+    return [list(word) for word in product(range(signs), repeat=length)]
+
+
+def word_number(signs, word):
+    return int("".join(str(sign) for sign in word), signs)
+
+
+def word_round(ring, start, length):
+    return [ring[(start + place) % len(ring)] for place in range(length)]
+
+
+def plain_tick(rule, ring):
+    signs, first, width, table = rule
+    return [
+        table[word_number(signs, word_round(ring, cell + first, width))] for cell in range(len(ring))
+    ]
+
+
+def plain_ticks(rule, ring, ticks):
+    for _ in range(ticks):
+        ring = plain_tick(rule, ring)
+    return ring
+
+
+def plain_sum(weight, ring):
+    signs, span, values = weight
+    return sum(values[word_number(signs, word_round(ring, cell, span))] for cell in range(len(ring)))
+
+
+def some_rules(seed, many, reach=3):
+    """Rules of all numbers of signs and of several widths."""
+    numbers = Numbers(seed)
+    found = []
+    for at in range(many):
+        signs = 2 + at % 3
+        width = 1 + numbers.below(4 if signs == 2 else 3)
+        first = numbers.below(2 * reach + 1) - reach
+        found.append((signs, first, width, numbers.signs(signs, signs ** width)))
+    return found
+
+
+def some_weights(seed, many, reach=5):
+    """Weights of all numbers of signs and of several spans."""
+    numbers = Numbers(seed)
+    found = []
+    for at in range(many):
+        signs = 2 + at % 3
+        span = 1 + numbers.below(4 if signs == 2 else 3)
+        values = [numbers.below(2 * reach + 1) - reach for _ in range(signs ** span)]
+        found.append((signs, span, values))
+    return found
+
+
+def lists_in(value):
+    """All lists in a value, each time that it stands there."""
+    found = [value] if type(value) is list else []
+    if type(value) in (list, tuple):
+        for item in value:
+            found += lists_in(item)
+    return found
+
+
+def check_fresh(case, call, *args):
+    """The call changes no argument, gives an equal result again, and only new lists; the result."""
+    kept = copy.deepcopy(args)
+    result = call(*args)
+    again = call(*args)
+    case.assertEqual(args, kept)
+    case.assertEqual(result, again)
+    own = [id(one) for one in lists_in(result) + lists_in(again)]
+    case.assertEqual(len(own), len(set(own)))
+    case.assertFalse(set(own) & {id(one) for one in lists_in(args)})
+    return result
+
+
+def check_raises(case, error, call, *args):
+    """The call raises an error of exactly this class and changes no argument; the error."""
+    # Deep copies of odd values are not equal to them, so only what can be compared is.
+    kept = repr(args)
+    with case.assertRaises(errors.FlowError) as caught:
+        call(*args)
+    case.assertIs(type(caught.exception), error)
+    case.assertEqual(repr(args), kept)
+    return caught.exception
