@@ -43,6 +43,12 @@ def sum_of(weight, ring):
     return ring_sum(weight, ring)
 
 
+def negated(weight):
+    """The weight by which each ring has the negative of its sum, unchecked."""
+    signs, span, values = weight
+    return (signs, span, [-value for value in values])
+
+
 def sums_behind_zeros(weight):
     """For each word of `span` - 1 signs the sum of the values of all words with its beginning.
 

@@ -65,6 +65,13 @@ def number_of(signs, word):
     return number
 
 
+def part_numbers(signs, length, start, size):
+    """For each word of this length the number of its part of `size` signs from `start` on."""
+    behind = count_words(signs, length - start - size, WORD_LIMIT)
+    many = count_words(signs, size, WORD_LIMIT)
+    return [number // behind % many for number in range(count_words(signs, length, WORD_LIMIT))]
+
+
 def numbers_round(signs, length, ring, start):
     """For each cell of a ring the number of the word that begins `start` cells behind it."""
     cells = len(ring)

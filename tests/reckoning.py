@@ -13,11 +13,41 @@ RISES = (2, 2, [0, 1, 0, 0])
 
 LONGEST = {2: 10, 3: 6, 4: 5}
 
+GREAT = 10 ** 40 - 1
+
 NOT_INTEGERS = (None, True, False, "1", "", b"1", [], [1], (), (1,), {}, {1: 1}, set(), object(), int)
 
 ODD_VALUES = (
     None, True, False, 0, 1, 2, -1, 10 ** 40, "", "0", "2 0 01", b"01", (), {}, {0: 1}, set(), frozenset([1]),
     object(), int, ((), []), (2,), [None], [[]], [[[[]]]], (2, (2, (2, ()))),
+)
+
+NOT_RULES = ODD_VALUES + (
+    [2, 0, 1, [0, 1]], (2, 0, 1), (2, 0, 1, [0, 1], 0), (2, 0, 1, (0, 1)), (2, 0, 1, "01"), (2, 0, 1, b"\x00\x01"),
+    (1, 0, 1, [0]), (5, 0, 1, [0, 1, 2, 3, 4]), (0, 0, 1, []), (True, 0, 1, [0, 1]), ("2", 0, 1, [0, 1]),
+    (2, None, 1, [0, 1]), (2, False, 1, [0, 1]), (2, "0", 1, [0, 1]), (2, [0], 1, [0, 1]),
+    (2, 0, True, [0, 1]), (2, 0, "1", [0, 1]), (2, 0, None, [0, 1]), (2, 0, [1], [0, 1]),
+    (2, 0, 0, [0]), (2, 0, -1, [0, 1]), (2, 0, 0, []),
+    (2, 0, 1, []), (2, 0, 1, [0]), (2, 0, 1, [0, 1, 0]), (2, 0, 2, [0, 1, 0]), (2, 0, 2, [0, 1]),
+    (2, 0, 1, [0, 2]), (2, 0, 1, [-1, 0]), (3, 0, 1, [0, 1, 3]), (4, 0, 1, [0, 1, 2, 4]),
+    (2, 0, 1, [False, True]), (2, 0, 1, [0, True]), (2, 0, 1, [0, None]), (2, 0, 1, [0, "1"]), (2, 0, 1, [0, [1]]),
+    (2, -101, 1, [0, 1]), (2, 101, 1, [0, 1]), (2, 100, 2, [0, 1, 1, 1]), (2, 10 ** 39, 1, [0, 1]),
+    (2, -10 ** 39, 1, [0, 1]), (2, 0, 10 ** 39, [0, 1]), (2, 0, 11, [0] * 2048), (3, 0, 7, [0] * 2187),
+    (4, 0, 6, [0] * 4096), (2, -100, 10 ** 40, [0] * 1024), (2, -10 ** 39, 10 ** 39, [0, 1]),
+)
+
+NOT_RINGS = ODD_VALUES + (
+    [], (0, 1), "01", b"\x00", {0: 1}, [2], [0, 1, 2], [-1], [True], [False, 0], [0, None], [0, "1"], [[0]], [(0,)],
+    [0] * 513, [10 ** 39], range(2), ([0],),
+)
+
+NOT_WEIGHTS = ODD_VALUES + (
+    [2, 1, [0, 1]], (2, 1), (2, 1, [0, 1], 0), (2, 1, (0, 1)), (2, 1, "01"), (2, 1, {0: 0, 1: 1}),
+    (1, 1, [0]), (5, 1, [0] * 5), (0, 1, []), (-2, 1, [0, 1]), (True, 1, [0, 1]), ("2", 1, [0, 1]), (None, 1, [0, 1]),
+    (2, 0, [0]), (2, 0, []), (2, -1, [0, 1]), (2, True, [0, 1]), (2, "1", [0, 1]), (2, None, [0, 1]), (2, [1], [0, 1]),
+    (2, 1, []), (2, 1, [0]), (2, 1, [0, 1, 2]), (2, 2, [0, 1]), (2, 2, [0, 1, 0]), (3, 1, [0, 1]),
+    (2, 1, [0, True]), (2, 1, [False, 0]), (2, 1, [0, None]), (2, 1, [0, "1"]), (2, 1, [0, [1]]), (2, 1, [(0,), 1]),
+    (2, 11, [0] * 2048), (3, 7, [0] * 2187), (4, 6, [0] * 4096), (2, 10 ** 39, [0, 1]), (2, 10 ** 39, [0] * 1024),
 )
 
 
@@ -27,9 +57,15 @@ class Numbers:
     def __init__(self, seed):
         self.state = seed
 
-    def below(self, many):
+    def draw(self):
         self.state = (self.state * 6364136223846793005 + 1442695040888963407) % 2 ** 64
-        return (self.state >> 33) % many
+        return self.state >> 33
+
+    def below(self, many):
+        drawn, room = self.draw(), 2 ** 31
+        while room < many:
+            drawn, room = drawn * 2 ** 31 + self.draw(), room * 2 ** 31
+        return drawn % many
 
     def signs(self, signs, many):
         return [self.below(signs) for _ in range(many)]
@@ -40,7 +76,7 @@ def words(signs, length):
 
 
 def word_number(signs, word):
-    return int("".join(str(sign) for sign in word), signs)
+    return int("0" + "".join(str(sign) for sign in word), signs)
 
 
 def word_round(ring, start, length):
@@ -65,6 +101,19 @@ def plain_sum(weight, ring):
     return sum(values[word_number(signs, word_round(ring, cell, span))] for cell in range(len(ring)))
 
 
+def flow_parts(weight, bottom, flow):
+    """For each word the left side of the inequality of a flow."""
+    signs, span, values = weight
+    return [
+        bottom * value - flow[word_number(signs, word[:-1])] + flow[word_number(signs, word[1:])]
+        for word, value in zip(words(signs, span), values)
+    ]
+
+
+def negative(weight):
+    return (weight[0], weight[1], [-value for value in weight[2]])
+
+
 def some_rules(seed, many, reach=3):
     """Rules of all numbers of signs and of several widths."""
     numbers = Numbers(seed)
@@ -87,6 +136,19 @@ def some_weights(seed, many, reach=5):
         values = [numbers.below(2 * reach + 1) - reach for _ in range(signs ** span)]
         found.append((signs, span, values))
     return found
+
+
+def rings_up_to(signs, cells):
+    return [ring for many in range(1, cells + 1) for ring in words(signs, many)]
+
+
+def fulls(seed, reach):
+    """A weight with as many words as can be for each number of signs."""
+    numbers = Numbers(seed)
+    return [
+        (signs, span, [numbers.below(2 * reach + 1) - reach for _ in range(signs ** span)])
+        for signs, span in LONGEST.items()
+    ]
 
 
 def lists_in(value):

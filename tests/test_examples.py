@@ -1,6 +1,7 @@
 """The examples of the document, as it prints them."""
 
 import doctest
+import os
 import unittest
 
 SETTING = """
@@ -28,11 +29,39 @@ WEIGHTS = """
 [(2, 2, [0, 2, 1, 1]), 0, 1]
 """
 
+MEANS = """
+>>> from cellflows.means import bounds_above, greatest_mean, least_mean, top_ring
+>>> [greatest_mean(rises), least_mean(rises), len(top_ring(rises)), greatest_mean((2, 1, [-3, -5]))]
+[(1, 2), (0, 1), 2, (-3, 1)]
+>>> [bounds_above(rises, (1, 2), [1, 0]), bounds_above(rises, (1, 2), [0, 0]), bounds_above(rises, (1, 1), [0, 0])]
+[True, False, True]
+"""
+
+GAINS = """
+>>> from cellflows.means import bounds_above
+>>> from cellflows.gains import gain, greatest_gain, is_kept, kept_flow, least_gain, never_grows, passing, pulled
+>>> [gain(spread, ones), greatest_gain(spread, ones, 1), least_gain(spread, ones, 1), greatest_gain(spread, ones, 2)]
+[(2, 2, [0, 1, 0, 0]), (1, 2), (0, 1), (2, 3)]
+>>> [bounds_above(gain(road, ones), (0, 1), [0, 0, 1, 0]), bounds_above(gain(road, ones), (0, 1), [0, 1, 0, 0])]
+[True, False]
+>>> [is_kept(road, ones), kept_flow(road, ones), passing(road, ones, [1, 1, 0, 0]), never_grows(road, rises), pulled(spread, ones)]
+[True, [0, 0, 1, 0], [0, 0, 1, 0], False, (2, 2, [0, 1, 1, 1])]
+"""
+
+SIZES = """
+>>> from cellflows.weights import sum_of
+>>> from cellflows.sizes import greatest_ring, greatest_sum, least_sum, reaches_top
+>>> [greatest_sum(rises, 5), greatest_sum(rises, 10 ** 18), least_sum(rises, 7), reaches_top(rises, 10 ** 18 - 1)]
+[2, 500000000000000000, 0, False]
+>>> sum_of(rises, greatest_ring(rises, 9))
+4
+"""
+
 
 class TestExamples(unittest.TestCase):
 
-    def check_examples(self, name, text):
-        test = doctest.DocTestParser().get_doctest(SETTING + text, {}, name, None, 0)
+    def check_examples(self, name, text, setting=SETTING):
+        test = doctest.DocTestParser().get_doctest(setting + text, {}, name, None, 0)
         told = []
         result = doctest.DocTestRunner(verbose=False).run(test, out=told.append)
         self.assertGreater(result.attempted, 3)
@@ -43,6 +72,21 @@ class TestExamples(unittest.TestCase):
 
     def test_weights(self):
         self.check_examples("weights", WEIGHTS)
+
+    def test_means(self):
+        self.check_examples("means", MEANS)
+
+    def test_gains(self):
+        self.check_examples("gains", GAINS)
+
+    def test_sizes(self):
+        self.check_examples("sizes", SIZES)
+
+    def test_readme(self):
+        path = os.path.join(os.path.dirname(os.path.dirname(os.path.abspath(__file__))), "README.md")
+        with open(path, encoding="utf-8") as file:
+            # What ends a block of examples would be read as a part of their last result.
+            self.check_examples("readme", file.read().replace("```", ""), "")
 
 
 if __name__ == "__main__":

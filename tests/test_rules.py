@@ -4,27 +4,8 @@ from itertools import product
 from cellflows import errors
 from cellflows.rules import composed, is_ring, is_rule, mirrored, parting_ring, reduced, ticked
 from tests.reckoning import (
-    LONGEST, NOT_INTEGERS, ODD_VALUES, ROAD, SHIFT, SPREAD, Numbers, check_fresh, check_raises,
-    plain_tick, plain_ticks, some_rules, words,
-)
-
-NOT_RULES = ODD_VALUES + (
-    [2, 0, 1, [0, 1]], (2, 0, 1), (2, 0, 1, [0, 1], 0), (2, 0, 1, (0, 1)), (2, 0, 1, "01"), (2, 0, 1, b"\x00\x01"),
-    (1, 0, 1, [0]), (5, 0, 1, [0, 1, 2, 3, 4]), (0, 0, 1, []), (True, 0, 1, [0, 1]), ("2", 0, 1, [0, 1]),
-    (2, None, 1, [0, 1]), (2, False, 1, [0, 1]), (2, "0", 1, [0, 1]), (2, [0], 1, [0, 1]),
-    (2, 0, True, [0, 1]), (2, 0, "1", [0, 1]), (2, 0, None, [0, 1]), (2, 0, [1], [0, 1]),
-    (2, 0, 0, [0]), (2, 0, -1, [0, 1]), (2, 0, 0, []),
-    (2, 0, 1, []), (2, 0, 1, [0]), (2, 0, 1, [0, 1, 0]), (2, 0, 2, [0, 1, 0]), (2, 0, 2, [0, 1]),
-    (2, 0, 1, [0, 2]), (2, 0, 1, [-1, 0]), (3, 0, 1, [0, 1, 3]), (4, 0, 1, [0, 1, 2, 4]),
-    (2, 0, 1, [False, True]), (2, 0, 1, [0, True]), (2, 0, 1, [0, None]), (2, 0, 1, [0, "1"]), (2, 0, 1, [0, [1]]),
-    (2, -101, 1, [0, 1]), (2, 101, 1, [0, 1]), (2, 100, 2, [0, 1, 1, 1]), (2, 10 ** 39, 1, [0, 1]),
-    (2, -10 ** 39, 1, [0, 1]), (2, 0, 10 ** 39, [0, 1]), (2, 0, 11, [0] * 2048), (3, 0, 7, [0] * 2187),
-    (4, 0, 6, [0] * 4096), (2, -100, 10 ** 40, [0] * 1024), (2, -10 ** 39, 10 ** 39, [0, 1]),
-)
-
-NOT_RINGS = tuple(value for value in ODD_VALUES) + (
-    [], (0, 1), "01", b"\x00", {0: 1}, [2], [0, 1, 2], [-1], [True], [False, 0], [0, None], [0, "1"], [[0]], [(0,)],
-    [0] * 513, [10 ** 39], range(2), ([0],),
+    LONGEST, NOT_INTEGERS, NOT_RINGS, NOT_RULES, ROAD, SHIFT, SPREAD, Numbers, check_fresh,
+    check_raises, plain_tick, plain_ticks, some_rules, words,
 )
 
 

@@ -5,36 +5,11 @@ from cellflows import errors
 from cellflows.rules import is_ring
 from cellflows.weights import added, apart_ring, divisor, is_weight, plain, sum_of
 from tests.reckoning import (
-    LONGEST, NOT_INTEGERS, ODD_VALUES, ONES, RISES, Numbers, check_fresh, check_raises, plain_sum,
-    some_weights, words,
+    GREAT, LONGEST, NOT_INTEGERS, NOT_RINGS, NOT_WEIGHTS, ONES, RISES, Numbers, check_fresh,
+    check_raises, fulls, plain_sum, rings_up_to, some_weights, words,
 )
 
 FALLS = (2, 2, [0, 0, 1, 0])
-GREAT = 10 ** 40 - 1
-
-NOT_WEIGHTS = ODD_VALUES + (
-    [2, 1, [0, 1]], (2, 1), (2, 1, [0, 1], 0), (2, 1, (0, 1)), (2, 1, "01"), (2, 1, {0: 0, 1: 1}),
-    (1, 1, [0]), (5, 1, [0] * 5), (0, 1, []), (-2, 1, [0, 1]), (True, 1, [0, 1]), ("2", 1, [0, 1]), (None, 1, [0, 1]),
-    (2, 0, [0]), (2, 0, []), (2, -1, [0, 1]), (2, True, [0, 1]), (2, "1", [0, 1]), (2, None, [0, 1]), (2, [1], [0, 1]),
-    (2, 1, []), (2, 1, [0]), (2, 1, [0, 1, 2]), (2, 2, [0, 1]), (2, 2, [0, 1, 0]), (3, 1, [0, 1]),
-    (2, 1, [0, True]), (2, 1, [False, 0]), (2, 1, [0, None]), (2, 1, [0, "1"]), (2, 1, [0, [1]]), (2, 1, [(0,), 1]),
-    (2, 11, [0] * 2048), (3, 7, [0] * 2187), (4, 6, [0] * 4096), (2, 10 ** 39, [0, 1]), (2, 10 ** 39, [0] * 1024),
-)
-
-NOT_RINGS = ODD_VALUES + ([], (0, 1), "01", [2], [-1], [True], [0, None], [[0]], [0] * 513, [10 ** 39])
-
-
-def rings_up_to(signs, cells):
-    return [ring for many in range(1, cells + 1) for ring in words(signs, many)]
-
-
-def fulls(seed, reach):
-    """A weight with as many words as can be for each number of signs."""
-    numbers = Numbers(seed)
-    return [
-        (signs, span, [numbers.below(2 * reach + 1) - reach for _ in range(signs ** span)])
-        for signs, span in LONGEST.items()
-    ]
 
 
 class TestIsWeight(unittest.TestCase):
