@@ -66,22 +66,38 @@ def next_ring(rule, ring):
     return [table[number] for number in numbers_round(signs, width, ring, first)]
 
 
-def ticked(rule, ring, ticks):
-    """The ring behind so many ticks."""
-    check_rule(rule)
-    check_ring(rule[0], ring)
-    check_ticks(ticks, most_ticks(rule[0], ring))
-    # Rings that can be followed far are few, so they come round again soon.
+def ring_path(rule, ring, ticks):
+    """The rings behind 0 ticks, 1 and so on, up to so many ticks or until one comes again.
+
+    Beside them stand the ticks behind which that one was there first, or None if none comes again.
+    """
     path = [list(ring)]
     seen = {tuple(ring): 0}
     while len(path) <= ticks:
         later = next_ring(rule, path[-1])
         since = seen.get(tuple(later))
         if since is not None:
-            return path[since + (ticks - since) % (len(path) - since)]
+            return path, since
         seen[tuple(later)] = len(path)
         path.append(later)
-    return path[ticks]
+    return path, None
+
+
+def ring_on_path(path, since, ticks):
+    """The ring behind so many ticks, by what `ring_path` tells."""
+    if since is None:
+        return path[ticks]
+    return path[since + (ticks - since) % (len(path) - since)]
+
+
+def ticked(rule, ring, ticks):
+    """The ring behind so many ticks."""
+    check_rule(rule)
+    check_ring(rule[0], ring)
+    check_ticks(ticks, most_ticks(rule[0], ring))
+    # Rings that can be followed far are few, so they come round again soon.
+    path, since = ring_path(rule, ring, ticks)
+    return ring_on_path(path, since, ticks)
 
 
 def reduced(rule):

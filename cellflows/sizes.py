@@ -17,12 +17,17 @@ def check_cells(value, most):
         raise InvalidCells(f"a number of cells is an integer from 1 to {most}")
 
 
+def check_places(weight):
+    """Raise TooLarge if there are too many words of `span` - 1 signs."""
+    if places_of(weight) > PLACE_LIMIT:
+        raise TooLarge(PLACE_LIMIT)
+
+
 def check_size(weight, cells, most):
     """Raise the error of a weight or a number of cells that is none, or of a weight that is too large."""
     check_weight(weight)
     check_cells(cells, most)
-    if places_of(weight) > PLACE_LIMIT:
-        raise TooLarge(PLACE_LIMIT)
+    check_places(weight)
 
 
 def missing_value(weight, cells):

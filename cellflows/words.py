@@ -1,6 +1,6 @@
-"""Words of signs and their numbers, and the checks that rules and weights share."""
+"""Words of signs and their numbers, and the checks that the other modules share."""
 
-from cellflows.errors import InvalidSigns, UnlikeSigns
+from cellflows.errors import InvalidIndex, InvalidSigns, UnlikeSigns
 
 WORD_LIMIT = 1024
 
@@ -29,6 +29,12 @@ def check_signs(value):
     """Raise InvalidSigns unless the value is a number of signs."""
     if not is_sign_count(value):
         raise InvalidSigns("a number of signs is an integer from 2 to 4")
+
+
+def check_index(value):
+    """Raise InvalidIndex unless the value is an integer from 0 on."""
+    if not is_integer(value) or value < 0:
+        raise InvalidIndex("an index is an integer from 0 on")
 
 
 def check_like_signs(one, other):

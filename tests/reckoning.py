@@ -13,9 +13,16 @@ RISES = (2, 2, [0, 1, 0, 0])
 
 LONGEST = {2: 10, 3: 6, 4: 5}
 
+# The greatest spans with at most 16 words of one sign less.
+LONGEST_BOUND = {2: 5, 3: 3, 4: 3}
+
 GREAT = 10 ** 40 - 1
 
 NOT_INTEGERS = (None, True, False, "1", "", b"1", [], [1], (), (1,), {}, {1: 1}, set(), object(), int)
+
+NOT_SIGNS = NOT_INTEGERS + (0, 1, 5, -2, 10 ** 39)
+
+NOT_INDICES = NOT_INTEGERS + (-1, -2, -10 ** 39)
 
 ODD_VALUES = (
     None, True, False, 0, 1, 2, -1, 10 ** 40, "", "0", "2 0 01", b"01", (), {}, {0: 1}, set(), frozenset([1]),
@@ -48,6 +55,20 @@ NOT_WEIGHTS = ODD_VALUES + (
     (2, 1, []), (2, 1, [0]), (2, 1, [0, 1, 2]), (2, 2, [0, 1]), (2, 2, [0, 1, 0]), (3, 1, [0, 1]),
     (2, 1, [0, True]), (2, 1, [False, 0]), (2, 1, [0, None]), (2, 1, [0, "1"]), (2, 1, [0, [1]]), (2, 1, [(0,), 1]),
     (2, 11, [0] * 2048), (3, 7, [0] * 2187), (4, 6, [0] * 4096), (2, 10 ** 39, [0, 1]), (2, 10 ** 39, [0] * 1024),
+)
+
+
+NOT_TOTALS = ODD_VALUES + (
+    [], [0] * 5, (1,), (1, 2), "12", {0: 1}, [True], [1, False], [None], [1, "1"], [[1]], [1, (2,)], range(2),
+)
+
+NOT_PAIRS = ODD_VALUES + (
+    [], [(ONES, 1)] * 5, ((ONES, 1),), (ONES, 1), [ONES], [1], [(ONES,)], [(ONES, 1, 1)], [[ONES, 1]], [(1, ONES)],
+    [(ONES, True)], [(ONES, None)], [(ONES, "1")], [(ONES, [1])], [(ONES, (1,))], [((2, 1, [0, True]), 1)],
+    [(None, 1)], [([2, 1, [0, 1]], 1)], [((2, 1, (0, 1)), 1)], [((2, 0, [0]), 1)], [((5, 1, [0] * 5), 1)],
+    [((2, 11, [0] * 2048), 1)], [(ONES, 1), None], [(ONES, 1), (ONES, None)], [(ONES, 1), (RISES, 1), ((2, 1, []), 1)],
+    [(ONES, 1), ((3, 1, [0, 1, 2]), 1)], [((4, 1, [0] * 4), 1), ((4, 1, [0] * 4), 1), ((3, 1, [0] * 3), 1)],
+    {0: (ONES, 1)}, "[((2, 1, [0, 1]), 1)]",
 )
 
 
@@ -142,6 +163,19 @@ def rings_up_to(signs, cells):
     return [ring for many in range(1, cells + 1) for ring in words(signs, many)]
 
 
+def identity(signs, first):
+    return (signs, first, 1, list(range(signs)))
+
+
+def packed_road(signs, first=-1):
+    """Each cell lets as many marks go to the right as there is room for."""
+    most = signs - 1
+    table = [
+        cell - min(cell, most - right) + min(left, most - cell) for left, cell, right in words(signs, 3)
+    ]
+    return (signs, first, 3, table)
+
+
 def fulls(seed, reach):
     """A weight with as many words as can be for each number of signs."""
     numbers = Numbers(seed)
@@ -149,6 +183,19 @@ def fulls(seed, reach):
         (signs, span, [numbers.below(2 * reach + 1) - reach for _ in range(signs ** span)])
         for signs, span in LONGEST.items()
     ]
+
+
+def largest(seed, reach):
+    """For each number of signs a weight with as many words as the functions of sizes and counts take."""
+    numbers = Numbers(seed)
+    return [
+        (signs, span, [numbers.below(2 * reach + 1) - reach for _ in range(signs ** span)])
+        for signs, span in LONGEST_BOUND.items()
+    ]
+
+
+def of_at_most_sixteen(weights):
+    return [weight for weight in weights if weight[1] <= LONGEST_BOUND[weight[0]]]
 
 
 def lists_in(value):

@@ -58,6 +58,30 @@ SIZES = """
 """
 
 
+COUNTS = """
+>>> from cellflows.counts import count_rings, counts_by_sum, nth_ring, ring_index
+>>> [counts_by_sum(rises, 3), count_rings(ones, 60, 30), nth_ring(rises, 3, 1, 0), ring_index(rises, [1, 1, 0])]
+[[(0, 2), (1, 6)], 118264581564861424, [0, 0, 1], 5]
+"""
+
+SIGHTS = """
+>>> from cellflows.sights import count_fits, excluding, nth_fit, observed, sure_bounds
+>>> seen = observed(spread, ones, [2, 3])
+>>> [seen, count_fits(seen, 5), nth_fit(seen, 5, 0), sure_bounds([(ones, 2)], rises, 5), excluding([(ones, 2), (rises, 3)], 5)]
+[[((2, 1, [0, 1]), 2), ((2, 2, [0, 1, 1, 1]), 3)], 5, [0, 0, 0, 1, 1], (1, 2), [1]]
+"""
+
+MARKS = """
+>>> from cellflows.marks import keeps_marks, mark_after, mark_cells, mark_moves, possible_moves, speed
+>>> mark_moves(shift, [1])
+[-1]
+>>> [keeps_marks(spread), mark_cells(3, [2, 0, 1]), mark_moves(road, [1, 1, 0, 0]), mark_after(road, [1, 1, 0, 0], 1, 2)]
+[False, [0, 0, 2], [0, 1], (3, 2)]
+>>> [possible_moves(road), possible_moves(shift), speed(road, [1, 1, 1, 0]), mark_after(shift, [0, 1, 0], 0, 10 ** 30)]
+[[0, 1], [-1], (1, 3), (0, -1000000000000000000000000000000)]
+"""
+
+
 class TestExamples(unittest.TestCase):
 
     def check_examples(self, name, text, setting=SETTING):
@@ -81,6 +105,15 @@ class TestExamples(unittest.TestCase):
 
     def test_sizes(self):
         self.check_examples("sizes", SIZES)
+
+    def test_counts(self):
+        self.check_examples("counts", COUNTS)
+
+    def test_sights(self):
+        self.check_examples("sights", SIGHTS)
+
+    def test_marks(self):
+        self.check_examples("marks", MARKS)
 
     def test_readme(self):
         path = os.path.join(os.path.dirname(os.path.dirname(os.path.abspath(__file__))), "README.md")

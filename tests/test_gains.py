@@ -11,8 +11,8 @@ from cellflows.means import bottom_flow, bottom_ring, bounds_above, top_flow, to
 from cellflows.weights import is_weight
 from tests.reckoning import (
     GREAT, LONGEST, NOT_INTEGERS, NOT_RINGS, NOT_RULES, NOT_WEIGHTS, ONES, RISES, ROAD, SHIFT, SPREAD,
-    Numbers, check_fresh, check_raises, flow_parts, plain_sum, plain_tick, plain_ticks, rings_up_to,
-    some_rules, some_weights, word_number, word_round, words,
+    Numbers, check_fresh, check_raises, flow_parts, identity, packed_road, plain_sum, plain_tick,
+    plain_ticks, rings_up_to, some_rules, some_weights, word_number, word_round, words,
 )
 
 OF_RULE_AND_WEIGHT = (pulled, gain, is_kept, never_grows, remainder, kept_flow)
@@ -21,19 +21,6 @@ PULLED_ALONE = (pulled, is_kept, never_grows, remainder)
 
 NOT_TICKS = NOT_INTEGERS + (-1, 9, 10, 10 ** 30, -10 ** 39)
 THREES = (3, 1, [0, 1, 2])
-
-
-def identity(signs, first):
-    return (signs, first, 1, list(range(signs)))
-
-
-def packed_road(signs, first=-1):
-    """Each cell lets as many marks go to the right as there is room for."""
-    most = signs - 1
-    table = [
-        cell - min(cell, most - right) + min(left, most - cell) for left, cell, right in words(signs, 3)
-    ]
-    return (signs, first, 3, table)
 
 
 def plain_pulled(rule, weight):

@@ -6,26 +6,14 @@ from cellflows.means import greatest_mean, least_mean, top_ring
 from cellflows.rules import is_ring
 from cellflows.sizes import greatest_ring, greatest_sum, least_sum, reaches_top
 from tests.reckoning import (
-    GREAT, NOT_INTEGERS, NOT_WEIGHTS, ONES, RISES, Numbers, check_fresh, check_raises, negative,
-    plain_sum, some_weights, words,
+    GREAT, LONGEST_BOUND, NOT_INTEGERS, NOT_WEIGHTS, ONES, RISES, check_fresh, check_raises, largest,
+    negative, of_at_most_sixteen, plain_sum, some_weights, words,
 )
 
 FAR = 10 ** 18
 OVER_CELLS = (greatest_sum, least_sum, reaches_top)
 
-# The greatest spans with at most 16 words of one sign less.
-LONGEST_BOUND = {2: 5, 3: 3, 4: 3}
-
 THIRDS = (2, 3, [0, 0, 0, 1, 0, 0, 0, 0])
-
-
-def largest(seed, reach):
-    """For each number of signs a weight with as many words as the functions of sizes take."""
-    numbers = Numbers(seed)
-    return [
-        (signs, span, [numbers.below(2 * reach + 1) - reach for _ in range(signs ** span)])
-        for signs, span in LONGEST_BOUND.items()
-    ]
 
 
 def sums_of_sizes(weight, cells):
@@ -47,10 +35,6 @@ def sums_of_sizes(weight, cells):
             if start in sums and (best[at] is None or best[at] < sums[start]):
                 best[at] = sums[start]
     return best
-
-
-def of_at_most_sixteen(weights):
-    return [weight for weight in weights if weight[1] <= LONGEST_BOUND[weight[0]]]
 
 
 class TestSums(unittest.TestCase):
