@@ -56,12 +56,11 @@ def joined_dicts(ways):
 def longer_counts(weight, counts):
     """The numbers for walks with one step more than those that these count."""
     signs, _, values = weight
-    spread = max(values)
     ways = [(value, counts[number % len(counts)]) for number, value in enumerate(values)]
     from_places = [ways[start:start + signs] for start in range(0, len(ways), signs)]
-    if spread > LIST_SPREAD:
+    if type(counts[0]) is dict:
         return [joined_dicts(some) for some in from_places]
-    return [joined_lists(some, spread) for some in from_places]
+    return [joined_lists(some, max(values)) for some in from_places]
 
 
 def counts_to(weight, goal, steps):

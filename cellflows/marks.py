@@ -6,10 +6,7 @@ from cellflows.means import lowest_terms
 from cellflows.rules import FAR_TICK_LIMIT, check_ring, check_rule, check_ticks, most_ticks, next_ring
 from cellflows.rules import ring_on_path, ring_path
 from cellflows.weights import divisor
-from cellflows.words import check_signs, is_integer, number_of, part_numbers, word_at
-
-RIGHT = 1
-LEFT = -1
+from cellflows.words import is_integer, number_of, part_numbers, word_at
 
 
 def mark_weight(signs):
@@ -35,7 +32,6 @@ def cells_with_marks(ring):
 
 def mark_cells(signs, ring):
     """The cells of all marks, by their numbers."""
-    check_signs(signs)
     check_ring(signs, ring)
     return cells_with_marks(ring)
 
@@ -53,10 +49,10 @@ def passing_first(rule, flow, ring):
     return flow[number_of(rule[0], around)]
 
 
-def far_cell(ring, number):
-    """The cell of the mark with a number, if marks and cells are counted on each time round the ring."""
+def far_cells(ring, numbers):
+    """The cells of the marks with these numbers, if marks and cells are counted on each time round the ring."""
     cells = cells_with_marks(ring)
-    return cells[number % len(cells)] + number // len(cells) * len(ring)
+    return [cells[number % len(cells)] + number // len(cells) * len(ring) for number in numbers]
 
 
 def mark_moves(rule, ring):
@@ -64,8 +60,9 @@ def mark_moves(rule, ring):
     check_rule(rule)
     check_ring(rule[0], ring)
     passed = passing_first(rule, mark_flow(rule), ring)
-    later = next_ring(rule, ring)
-    return [far_cell(later, mark + passed) - cell for mark, cell in enumerate(cells_with_marks(ring))]
+    cells = cells_with_marks(ring)
+    later = far_cells(next_ring(rule, ring), [mark + passed for mark in range(len(cells))])
+    return [there - here for here, there in zip(cells, later)]
 
 
 def passed_behind(passed, since, ticks):
@@ -88,8 +85,9 @@ def mark_after(rule, ring, mark, ticks):
     flow = mark_flow(rule)
     path, since = ring_path(rule, ring, ticks)
     passed = [passing_first(rule, flow, one) for one in path]
-    cell = far_cell(ring_on_path(path, since, ticks), mark + passed_behind(passed, since, ticks))
-    return (cell % len(ring), cell - far_cell(ring, mark))
+    number = mark + passed_behind(passed, since, ticks)
+    cell = far_cells(ring_on_path(path, since, ticks), [number])[0]
+    return (cell % len(ring), cell - cells_with_marks(ring)[mark])
 
 
 def speed(rule, ring):
@@ -106,103 +104,38 @@ def speed(rule, ring):
     return lowest_terms(len(ring) * sum(passed), marks * len(passed))
 
 
-def marks_behind(rule):
-    """For each word of the cells around a cell the marks in that cell behind the tick."""
-    low, length = gain_cells(rule, mark_weight(rule[0]))
-    return [rule[3][number] for number in part_numbers(rule[0], length, rule[1] - low, rule[2])]
+def moves_with_marks(rule):
+    """For each move that a mark of some ring can make in a tick: a ring and a mark of it that makes it.
 
-
-def words_beside(signs, places, word, side):
-    """The words that can stand around the next cell on a side of the cell around which this one stands."""
-    if side == RIGHT:
-        return [word % places * signs + sign for sign in range(signs)]
-    return [sign * places + word // signs for sign in range(signs)]
-
-
-def starts(rule, flow):
-    """For each mark in a cell the word around the cell, and the t that [12] of the document tells."""
-    signs = rule[0]
-    low, length = gain_cells(rule, mark_weight(signs))
-    own = part_numbers(signs, length, -low, 1)
-    return [(word, flow[word // signs] + mark) for word, marks in enumerate(own) for mark in range(marks)]
-
-
-def first_pairs(rule, flow, side):
-    """The pairs, as in `walks`, of the first cell in which marks that go to a side may stop."""
-    if side == RIGHT:
-        return {(word, t): (word, t) for word, t in starts(rule, flow) if t >= 0}
-    return {
-        (beside, -t - 1): (word, t)
-        for word, t in starts(rule, flow) if t < 0
-        for beside in words_beside(rule[0], len(flow), word, side)
-    }
-
-
-def walks(rule, flow, side):
-    """For each cell on a side in which marks may stop, one by one: the pairs there, and those ahead.
-
-    A pair is the word around the cell, and how many marks behind the tick a mark that comes
-    there passes before it stops. It stops if there are more than these in the cell. A pair
-    leads to the one that the mark had in the cell ahead, the first pair to what `starts` tells.
+    Here the marks that a cell has behind the tick are followed back. As many marks pass a border
+    if there are zeros beyond the word around it, so they all come from this word. So the marks
+    that come into a cell come from the word of all cells that play a part there, and if this
+    word alone is the ring, they make the same moves.
     """
-    behind = marks_behind(rule)
-    layers = [first_pairs(rule, flow, side)]
-    # No pair comes twice on one walk, so there is an end.
-    while layers[-1]:
-        further = {}
-        for pair in layers[-1]:
-            word, rest = pair
-            if behind[word] <= rest:
-                for beside in words_beside(rule[0], len(flow), word, side):
-                    further[(beside, rest - behind[word])] = pair
-        layers.append(further)
-    return layers
-
-
-def stops(rule, layer):
-    """The pairs of a cell with which a mark stops there."""
-    behind = marks_behind(rule)
-    return [(word, rest) for word, rest in layer if behind[word] > rest]
+    signs, first, width, table = rule
+    low, length = gain_cells(rule, mark_weight(signs))
+    flow = mark_flow(rule)
+    found = {}
+    for number, part in enumerate(part_numbers(signs, length, first - low, width)):
+        word = word_at(signs, length, number)
+        cells = cells_with_marks(word)
+        # The first mark that is in the cell behind the tick.
+        mark = sum(word[:-low]) - flow[number // signs]
+        for later in range(mark, mark + table[part]):
+            found[-low - cells[later]] = (word, later)
+    return found
 
 
 def possible_moves(rule):
     """The ascending list of all moves that a mark of some ring can make in a tick."""
     check_rule(rule)
-    flow = mark_flow(rule)
-    left = [-1 - cells for cells, layer in enumerate(walks(rule, flow, LEFT)) if stops(rule, layer)]
-    right = [cells for cells, layer in enumerate(walks(rule, flow, RIGHT)) if stops(rule, layer)]
-    return left[::-1] + right
+    return sorted(moves_with_marks(rule))
 
 
 def moving_ring(rule, move):
     """A ring and a mark of it that makes such a move; None for any value that is no such move."""
     check_rule(rule)
-    flow = mark_flow(rule)
+    found = moves_with_marks(rule)
     if not is_integer(move):
         return None
-    side = RIGHT if move >= 0 else LEFT
-    layers = walks(rule, flow, side)
-    cells = move if side == RIGHT else -1 - move
-    if cells >= len(layers) or not stops(rule, layers[cells]):
-        return None
-    pair = stops(rule, layers[cells])[0]
-    words = []
-    for layer in layers[cells::-1]:
-        words.append(pair[0])
-        pair = layer[pair]
-    return ring_of_walk(rule, flow, side, words[::-1], pair)
-
-
-def ring_of_walk(rule, flow, side, words, start):
-    """The ring that these words around the cells of a walk tell, and the mark that begins it."""
-    signs = rule[0]
-    low, length = gain_cells(rule, mark_weight(signs))
-    cell = -low
-    ring = word_at(signs, length, start[0])
-    if side == RIGHT:
-        ring = ring + [word % signs for word in words[1:]]
-    else:
-        ring = [word // len(flow) for word in words[::-1]] + ring
-        cell = cell + len(words)
-    mark = start[1] - flow[start[0] // signs]
-    return (ring, sum(ring[:cell]) + mark)
+    return found.get(move)

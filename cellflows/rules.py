@@ -42,7 +42,7 @@ def check_rule(value):
 
 
 def check_ring(signs, value):
-    """Raise InvalidRing unless the value is a ring with so many signs."""
+    """Raise InvalidRing unless the value is a ring with so many signs, which are checked first."""
     if not is_ring(signs, value):
         raise InvalidRing("not a ring with as many signs")
 

@@ -81,6 +81,33 @@ MARKS = """
 [[0, 1], [-1], (1, 3), (0, -1000000000000000000000000000000)]
 """
 
+RUNS = """
+>>> from cellflows.runs import cells_of, normal_runs, runs_of, runs_sum, ticked_runs, unrolled
+>>> great = [(1, 10 ** 30), (0, 10 ** 30)]
+>>> [runs_of(2, [0, 0, 1, 0]), cells_of(2, great), runs_sum(rises, great), ticked_runs(spread, great, 3)]
+[[(0, 2), (1, 1), (0, 1)], 2000000000000000000000000000000, 1, [(1, 1000000000000000000000000000000), (0, 999999999999999999999999999997), (1, 3)]]
+"""
+
+BANDS = """
+>>> from cellflows.bands import Band
+>>> band = Band(road, [1, 1, 0, 0])
+>>> [band.tick(), band.put(0, 0), band.ring, band.gained(ones), band.after(2), band.undo(), band.gained(ones), band.log, len(band)]
+[None, None, [0, 0, 1, 0], -1, [1, 0, 0, 0], None, 0, [('tick',)], 1]
+"""
+
+TEXTS = """
+>>> from cellflows.texts import read_ring, read_rule, read_weight, show_ring, show_rule, show_weight
+>>> [show_rule(road), show_weight(rises), show_ring(2, [0, 1, 1]), read_weight("3 5 0 -7"), read_ring(3, "201")]
+['2 -1 00011101', '2 0 1 0 0', '011', (3, 1, [5, 0, -7]), [2, 0, 1]]
+"""
+
+CONSOLE = """
+>>> from cellflows.console import Console
+>>> console = Console()
+>>> [console.execute(one) for one in ["rule 2 -1 00011101", "ring 1100", "kept", "flow", "moves", "tick", "passing", "possible", "weight 2 0 1 0 0", "top", "undo"]]
+['ok', 'ok', 'yes', '0 0 1 0', '0 1', '1010', '0 1 0 1', '0 1', 'ok', '1/4', '1100']
+"""
+
 
 class TestExamples(unittest.TestCase):
 
@@ -114,6 +141,18 @@ class TestExamples(unittest.TestCase):
 
     def test_marks(self):
         self.check_examples("marks", MARKS)
+
+    def test_runs(self):
+        self.check_examples("runs", RUNS)
+
+    def test_bands(self):
+        self.check_examples("bands", BANDS)
+
+    def test_texts(self):
+        self.check_examples("texts", TEXTS)
+
+    def test_console(self):
+        self.check_examples("console", CONSOLE)
 
     def test_readme(self):
         path = os.path.join(os.path.dirname(os.path.dirname(os.path.abspath(__file__))), "README.md")

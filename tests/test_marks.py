@@ -46,12 +46,15 @@ def rules_of_flows(signs, width, own, reach):
     return [rule for rule in found if rule is not None]
 
 
+FOUR_CELLS = rules_of_flows(2, 4, 1, 1)
+
 # Roads to each side, marks that all go alike, and what small flows make.
 KEEPING = (
     [ROAD, SHIFT, mirrored(ROAD), identity(2, 0), identity(2, -1), identity(2, 3), identity(3, -2), identity(4, 1)]
     + [packed_road(2), packed_road(3), packed_road(4), mirrored(packed_road(3)), packed_road(3, 1), packed_road(2, -4)]
     + [composed(ROAD, ROAD), composed(mirrored(ROAD), ROAD), composed(packed_road(3), mirrored(packed_road(3)))]
-    + rules_of_flows(2, 4, 1, 1) + rules_of_flows(3, 2, 0, 2) + rules_of_flows(4, 2, 0, 3)
+    + FOUR_CELLS + rules_of_flows(3, 2, 0, 2) + rules_of_flows(4, 2, 0, 3)
+    + [composed(FOUR_CELLS[at], FOUR_CELLS[by]) for at, by in ((12, 12), (3, 3), (2, 12), (12, 15))]
 )
 
 # The gains of these have as many words as can be, or nearly as many.
@@ -399,7 +402,8 @@ class TestPossibleMoves(unittest.TestCase):
             found = {move for ring in rings_up_to(rule[0], FEW[rule[0]]) for move in mark_moves(rule, ring)}
             self.assertEqual(told, sorted(found))
             seen.add(tuple(told))
-        self.assertLessEqual({(-2, -1, 0), (-1, 0, 1), (-2, -1), (0, 1, 2), (-3,), (2,), (0,)}, seen)
+        for told in ((0,), (2,), (-3,), (-2, -1), (0, 1, 2), (-1, 0, 1), (-2, -1, 0, 1), (-2, -1, 0, 1, 2), (-4, -3, -2, -1, 0)):
+            self.assertIn(told, seen)
 
     def test_wide_rules(self):
         for at, told in enumerate(([-9], [9], [-5], [5], [-4], [4], [0, 1, 2, 3, 4])):
